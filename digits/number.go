@@ -62,6 +62,9 @@ func (a Number) Twos() int {
 	return 0
 }
 
+// Odd tells whether a is odd.
+func (a Number) Odd() bool { return len(a) > 0 && a[0]%2 == 1 }
+
 // Plus is a and b together.
 func (a Number) Plus(b Number) Number {
 	if len(a) < len(b) {

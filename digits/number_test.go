@@ -97,8 +97,8 @@ func TestShiftedBitsTwosPower(t *testing.T) {
 		x := toBig(a)
 		same(t, "Shifted up", a.Shifted(n), new(big.Int).Lsh(x, uint(n)), a)
 		same(t, "Shifted down", a.Shifted(-n), new(big.Int).Rsh(x, uint(n)), a)
-		if a.Bits() != x.BitLen() || a.Twos() != int(x.TrailingZeroBits()) {
-			t.Fatalf("%v: %d bits, 2 is a factor %d times", a, a.Bits(), a.Twos())
+		if a.Bits() != x.BitLen() || a.Twos() != int(x.TrailingZeroBits()) || a.Odd() != (x.Bit(0) == 1) {
+			t.Fatalf("%v: %d bits, 2 is a factor %d times, odd: %v", a, a.Bits(), a.Twos(), a.Odd())
 		}
 		k := d.below(5)
 		same(t, "Power", a.Power(k), new(big.Int).Exp(x, big.NewInt(int64(k)), nil), a)

@@ -3,6 +3,7 @@ package dyad
 
 import (
 	"slipstick/api"
+	"slipstick/long"
 	"slipstick/nat"
 )
 
@@ -30,25 +31,12 @@ func wrong(dyads ...api.Dyad) api.Errno {
 	return api.OK
 }
 
-// short answers a number, bare, unless it needs more than a dyad may have. (To make it bare is to make it anew: so what
-// is answered shares nothing with what was handed in.)
-func short(a long) (api.Dyad, api.Errno) {
-	a = a.bare()
-	switch {
-	case len(a.Mantissa) > api.MaxDigits:
-		return api.Dyad{}, api.ErrMany
-	case beyond(a.Exp, api.MaxExp):
-		return api.Dyad{}, api.ErrRange
-	}
-	return a.Dyad, api.OK
-}
-
 // both answers what do makes of two dyads.
-func both(a, b api.Dyad, do func(a, b long) long) (api.Dyad, api.Errno) {
+func both(a, b api.Dyad, do func(a, b long.Dyad) long.Dyad) (api.Dyad, api.Errno) {
 	if e := wrong(a, b); e != api.OK {
 		return api.Dyad{}, e
 	}
-	return short(do(long{a}, long{b}))
+	return do(long.Of(a), long.Of(b)).Short()
 }
 
 // Bare dyad: the same number.
@@ -56,7 +44,7 @@ func Bare(a api.Dyad) (api.Dyad, api.Errno) {
 	if e := wrong(a); e != api.OK {
 		return api.Dyad{}, e
 	}
-	return short(long{a})
+	return long.Of(a).Short()
 }
 
 // Compare two: -1, 0 or 1, as a is less than b, the same, or more.
@@ -64,14 +52,14 @@ func Compare(a, b api.Dyad) (int, api.Errno) {
 	if e := wrong(a, b); e != api.OK {
 		return 0, e
 	}
-	return long{a}.plus(long{b}.opposite()).sign(), api.OK
+	return long.Of(a).Compare(long.Of(b)), api.OK
 }
 
 // Add two.
-func Add(a, b api.Dyad) (api.Dyad, api.Errno) { return both(a, b, long.plus) }
+func Add(a, b api.Dyad) (api.Dyad, api.Errno) { return both(a, b, long.Dyad.Plus) }
 
 // Mul of two.
-func Mul(a, b api.Dyad) (api.Dyad, api.Errno) { return both(a, b, long.times) }
+func Mul(a, b api.Dyad) (api.Dyad, api.Errno) { return both(a, b, long.Dyad.Times) }
 
 // Scale by a power of 2.
 func Scale(a api.Dyad, n int) (api.Dyad, api.Errno) {
@@ -82,7 +70,7 @@ func Scale(a api.Dyad, n int) (api.Dyad, api.Errno) {
 		return api.Dyad{}, api.ErrRange
 	}
 	a.Exp += n
-	return short(long{a})
+	return long.Of(a).Short()
 }
 
 // Cut to so many bits, down, or up.
@@ -93,7 +81,7 @@ func Cut(a api.Dyad, bits int, up bool) (api.Dyad, api.Errno) {
 	if bits < 1 || bits > api.MaxBits {
 		return api.Dyad{}, api.ErrRange
 	}
-	return short(long{a}.cut(bits, up))
+	return long.Of(a).Cut(bits, up).Short()
 }
 
 // Floor without its sign, and whether a is below 0.
@@ -105,5 +93,5 @@ func Floor(a api.Dyad) (api.Nat, bool, api.Errno) {
 	if e != api.OK {
 		return nil, false, e
 	}
-	return whole, long{a}.sign() < 0, api.OK
+	return whole, long.Of(a).Sign() < 0, api.OK
 }
