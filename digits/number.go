@@ -30,6 +30,18 @@ func (a Number) Copy() Number {
 	return c
 }
 
+// FromWord is the number that a word is.
+func FromWord(x uint64) Number { return trim(Number{uint32(x), uint32(x >> width)}) }
+
+// Word is a number that has at most 64 bits.
+func (a Number) Word() uint64 {
+	x := uint64(0)
+	for i := len(a) - 1; i >= 0; i-- {
+		x = x<<width | uint64(a[i])
+	}
+	return x
+}
+
 // Compare answers -1, 0 or 1, as a is less than b, the same, or more.
 func (a Number) Compare(b Number) int {
 	if c := cmp.Compare(len(a), len(b)); c != 0 {

@@ -105,6 +105,16 @@ func TestShiftedBitsTwosPower(t *testing.T) {
 	}
 }
 
+func TestWords(t *testing.T) {
+	for _, x := range []uint64{0, 1, 1<<32 - 1, 1 << 32, 1<<32 + 5, 1 << 63, 1<<64 - 1} {
+		a := FromWord(x)
+		same(t, "FromWord", a, new(big.Int).SetUint64(x), a)
+		if a.Word() != x {
+			t.Errorf("%d became %d", x, a.Word())
+		}
+	}
+}
+
 func TestRootIsTheGreatest(t *testing.T) {
 	d := draw(4)
 	for range 3000 {

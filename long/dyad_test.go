@@ -92,6 +92,28 @@ func TestEndlessNumbersAreCutAsTheyAre(t *testing.T) {
 	}
 }
 
+func TestKeptIsCutAsItWas(t *testing.T) {
+	for n := -300; n <= 300; n++ {
+		for bits := 1; bits <= 10; bits++ {
+			a := small(n, n%7)
+			kept := a.Kept(bits)
+			if got := kept.Digits().Bits(); got > bits+1 {
+				t.Fatalf("%v kept by %d bits has %d", a, bits, got)
+			}
+			for most := 1; most <= bits; most++ {
+				for _, up := range []bool{false, true} {
+					if got, want := kept.Cut(most, up), a.Cut(most, up); value(got).Cmp(value(want)) != 0 {
+						t.Fatalf("%v kept by %d bits, cut to %d: %v, and must be %v", a, bits, most, got, want)
+					}
+				}
+			}
+			if fits := a.Digits().Bits()-a.Digits().Twos() <= bits; fits && value(kept).Cmp(value(a)) != 0 {
+				t.Fatalf("%v kept by %d bits: %v", a, bits, kept)
+			}
+		}
+	}
+}
+
 func TestShortTellsWhatIsTooLong(t *testing.T) {
 	for _, c := range []struct {
 		a    Dyad

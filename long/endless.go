@@ -2,9 +2,9 @@ package long
 
 import "slipstick/digits"
 
-// Quotients and roots mostly have no end. What stands here for one has at least so many bits of it, and behind them one
-// bit more, that is set if anything is left: it lies where the number lies, on one of those with so many bits, or between
-// the same two of them. So to cut it, to so many bits or fewer, is to cut the number.
+// Quotients and roots mostly have no end, and that of a sum may be far away. What stands here for one has at least so many
+// bits of it, and behind them one bit more, that is set if anything is left: it lies where the number lies, on one of
+// those with so many bits, or between the same two of them. So to cut it, to so many bits or fewer, is to cut the number.
 
 // endless is a mantissa times 2 to the power of exp, and a little more than that if something is left.
 func endless(neg bool, mantissa digits.Number, exp int, left bool) Dyad {
@@ -13,6 +13,15 @@ func endless(neg bool, mantissa digits.Number, exp int, left bool) Dyad {
 		mantissa = mantissa.Plus(digits.Number{1})
 	}
 	return New(neg, mantissa, exp-1)
+}
+
+// Kept stands for a, as far as so many bits tell.
+func (a Dyad) Kept(bits int) Dyad {
+	spare := a.Digits().Bits() - bits
+	if spare <= 0 {
+		return a
+	}
+	return endless(a.Neg, a.Digits().Shifted(-spare), a.Exp+spare, a.Digits().Twos() < spare)
 }
 
 // Over stands for a over b, which must not be 0, as far as so many bits tell.
