@@ -6,6 +6,7 @@ import (
 	"slipstick/family"
 	"slipstick/grid"
 	"slipstick/long"
+	"slipstick/worth"
 )
 
 // desk is where operands of one format are reckoned with, and what comes is rounded by one way.
@@ -35,20 +36,13 @@ type operand struct {
 func (d desk) operands(patterns ...string) ([]operand, api.Errno) {
 	var list []operand
 	for _, s := range patterns {
-		v, e := codec.Decode(d.format, s)
+		v, x, e := worth.Read(d.format, s)
 		if e != api.OK {
 			return nil, e
 		}
-		list = append(list, operand{v.Class, v.Neg, d.number(v)})
+		list = append(list, operand{v.Class, v.Neg, long.Of(x)})
 	}
 	return list, api.OK
-}
-
-// number of a value that the format has; 0, if it is not of ClassNumber.
-func (d desk) number(v api.Value) long.Dyad {
-	// There is no error: dyads go farther than all formats.
-	x, _ := grid.Number(api.Place{Neg: v.Neg, Digits: v.Digits, Power: v.Power}, d.grid)
-	return long.Of(x)
 }
 
 // noNumbers tells whether one of some operands is neither a number nor 0 nor infinite.

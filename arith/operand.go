@@ -6,6 +6,7 @@ import (
 	"slipstick/api"
 	"slipstick/family"
 	"slipstick/long"
+	"slipstick/worth"
 )
 
 // enough bits of a number, and one that tells whether anything is left, say how it is rounded: numbers of the grids, and
@@ -101,7 +102,7 @@ func (d desk) byZero(neg bool) (operand, int) {
 	case family.A:
 		return operand{class: api.ClassInfinite, neg: neg}, api.FlagZero
 	case family.B:
-		return numberOf(d.number(d.greatest(neg)), neg), api.FlagZero
+		return numberOf(long.Of(worth.Number(d.greatest(neg), d.grid)), neg), api.FlagZero
 	}
 	return d.nothing(api.FlagZero)
 }

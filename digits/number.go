@@ -125,8 +125,11 @@ func (a Number) Times(b Number) Number {
 // Power is a times itself, n times in all (of n = 0: 1).
 func (a Number) Power(n int) Number {
 	power := Number{1}
-	for range n {
-		power = power.Times(a)
+	for i := bits.Len(uint(n)) - 1; i >= 0; i-- {
+		power = power.Times(power)
+		if n>>i%2 == 1 {
+			power = power.Times(a)
+		}
 	}
 	return power
 }

@@ -100,7 +100,7 @@ func TestShiftedBitsTwosPower(t *testing.T) {
 		if a.Bits() != x.BitLen() || a.Twos() != int(x.TrailingZeroBits()) || a.Odd() != (x.Bit(0) == 1) {
 			t.Fatalf("%v: %d bits, 2 is a factor %d times, odd: %v", a, a.Bits(), a.Twos(), a.Odd())
 		}
-		k := d.below(5)
+		k := d.below(5) + d.below(2)*d.below(20)
 		same(t, "Power", a.Power(k), new(big.Int).Exp(x, big.NewInt(int64(k)), nil), a)
 	}
 }
