@@ -18,6 +18,12 @@ func New(neg bool, mantissa digits.Number, exp int) Dyad {
 	return Dyad{api.Dyad{Neg: neg, Mantissa: api.Nat(mantissa), Exp: exp}}
 }
 
+// Whole number n, which must not be below 0.
+func Whole(n int) Dyad { return New(false, digits.FromWord(uint64(n)), 0) }
+
+// Top is how many bits stand ahead of the point (if it is below 0: how many noughts behind it). a must not be 0.
+func (a Dyad) Top() int { return a.Digits().Bits() + a.Exp }
+
 // Digits of the mantissa, to be reckoned with.
 func (a Dyad) Digits() digits.Number { return digits.Number(a.Mantissa) }
 
@@ -59,10 +65,25 @@ func (a Dyad) Plus(b Dyad) Dyad {
 	return New(a.Neg, x.Minus(y), exp)
 }
 
+// Opposite of a.
+func (a Dyad) Opposite() Dyad {
+	a.Neg = !a.Neg
+	return a
+}
+
+// Size is a without its sign.
+func (a Dyad) Size() Dyad {
+	a.Neg = false
+	return a
+}
+
 // Minus is a less b.
-func (a Dyad) Minus(b Dyad) Dyad {
-	b.Neg = !b.Neg
-	return a.Plus(b)
+func (a Dyad) Minus(b Dyad) Dyad { return a.Plus(b.Opposite()) }
+
+// Scaled is a times 2 to the power of n.
+func (a Dyad) Scaled(n int) Dyad {
+	a.Exp += n
+	return a
 }
 
 // Times is a times b.

@@ -133,3 +133,26 @@ func TestShortTellsWhatIsTooLong(t *testing.T) {
 		}
 	}
 }
+
+func TestSigns(t *testing.T) {
+	for _, n := range []int{-5, -1, 0, 1, 6} {
+		a := small(n, -3)
+		if a.Opposite().Sign() != -a.Sign() || a.Size().Sign() != a.Sign()*a.Sign() || a.Scaled(4).Compare(small(2*n, 0)) != 0 {
+			t.Errorf("%d: %v, %v, %v", n, a.Opposite(), a.Size(), a.Scaled(4))
+		}
+	}
+}
+
+func TestWholeAndTop(t *testing.T) {
+	if Whole(0).Sign() != 0 || Whole(1<<40).Compare(small(1, 40)) != 0 {
+		t.Errorf("%v, %v", Whole(0), Whole(1<<40))
+	}
+	for _, c := range []struct {
+		a    Dyad
+		want int
+	}{{Whole(1), 1}, {Whole(7), 3}, {Whole(8), 4}, {small(-1, -1), 0}, {small(5, -10), -7}} {
+		if got := c.a.Top(); got != c.want {
+			t.Errorf("%v: %d, and must be %d", c.a, got, c.want)
+		}
+	}
+}
